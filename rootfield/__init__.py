@@ -1,0 +1,1 @@
+"""Numbers of a field that a root of a polynomial makes: rootfield.field.answers."""
