@@ -8,10 +8,14 @@ from rootfield.reckoning import (
     count_real_roots,
     difference_of,
     in_lowest_terms,
+    least_of,
     norm_of,
+    polynomial_of,
     product_of,
     quotient_of,
+    signs_of,
     sum_of,
+    trace_of,
 )
 
 MOST_NUMBERS = 8
@@ -49,12 +53,11 @@ def answer_field(kept, coefficients):
         return [-1]
     if not all_within(coefficients, -LARGEST_COEFFICIENT, LARGEST_COEFFICIENT):
         return [-1]
-    polynomial = coefficients + [1]
-    if can_be_parted(polynomial):
+    if can_be_parted(coefficients + [1]):
         return [-3]
     kept.coefficients = coefficients
     kept.numbers = []
-    return [count_real_roots(polynomial)]
+    return [count_real_roots(coefficients)]
 
 
 def answer_number(kept, handed_in):
@@ -105,8 +108,50 @@ def answer_norm(kept, chosen):
     return [0] + norm_of(kept.coefficients, chosen[0])
 
 
+def answer_trace(kept, chosen):
+    """Tell the trace of a number."""
+    return [0] + trace_of(kept.coefficients, chosen[0])
+
+
+def answer_polynomial(kept, chosen):
+    """Tell the polynomial of a number."""
+    return [0] + polynomial_of(kept.coefficients, chosen[0])
+
+
+def answer_least(kept, chosen):
+    """Tell the least polynomial of a number, its degree ahead."""
+    least = least_of(kept.coefficients, chosen[0])
+    return [len(least) // 2 - 1] + least
+
+
+def answer_whole(kept, chosen):
+    """Tell whether a number is whole."""
+    polynomial = polynomial_of(kept.coefficients, chosen[0])
+    return [1 if all_within(polynomial[1::2], 1, 1) else 0]
+
+
+def answer_signs(kept, chosen):
+    """Tell the signs of a number at the real roots, how many they are ahead."""
+    signs = signs_of(kept.coefficients, chosen[0])
+    return [len(signs)] + signs
+
+
+def answer_alike(kept, chosen):
+    """Tell whether two numbers have the same least polynomial."""
+    same = least_of(kept.coefficients, chosen[0]) == least_of(kept.coefficients, chosen[1])
+    return [1 if same else 0]
+
+
+def answer_drop(kept, chosen):
+    """Keep the last number no longer; none is chosen."""
+    if not kept.numbers:
+        return [-4]
+    kept.numbers.pop()
+    return [len(kept.numbers)]
+
+
 # A call of the first kind hands in a row with its length ahead of it, one of
-# the second kind names numbers, as many as stand here.
+# the second kind names numbers, as many as stand here, be it none.
 CALLS_WITH_A_ROW = {0: answer_field, 1: answer_number}
 CALLS_WITH_NAMES = {
     2: answer_plus,
@@ -115,8 +160,15 @@ CALLS_WITH_NAMES = {
     5: answer_by,
     6: answer_told,
     7: answer_norm,
+    8: answer_trace,
+    9: answer_polynomial,
+    10: answer_least,
+    11: answer_whole,
+    12: answer_signs,
+    13: answer_alike,
+    14: answer_drop,
 }
-HOW_MANY_NAMES = {2: 2, 3: 2, 4: 2, 5: 2, 6: 1, 7: 1}
+HOW_MANY_NAMES = {2: 2, 3: 2, 4: 2, 5: 2, 6: 1, 7: 1, 8: 1, 9: 1, 10: 1, 11: 1, 12: 1, 13: 2, 14: 0}
 
 
 def answer_with_names(kept, call, names):

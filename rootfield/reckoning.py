@@ -67,14 +67,19 @@ def rows_of(coefficients, above):
     return rows
 
 
+def whole_product(coefficients, left, right):
+    """The places of the product of two numbers whose places are whole and told without a number below."""
+    above = [0 for one in coefficients]
+    for row, factor in zip(rows_of(coefficients, left), right):
+        above = [one + factor * other for one, other in zip(above, row)]
+    return above
+
+
 def product_of(coefficients, left, right):
     """The product of two numbers."""
     left_above, left_below = over_one_below(left)
     right_above, right_below = over_one_below(right)
-    above = [0 for one in coefficients]
-    for row, factor in zip(rows_of(coefficients, left_above), right_above):
-        above = [one + factor * other for one, other in zip(above, row)]
-    return places_of(above, left_below * right_below)
+    return places_of(whole_product(coefficients, left_above, right_above), left_below * right_below)
 
 
 def determinant(rows):
@@ -114,19 +119,88 @@ def norm_of(coefficients, number):
     return in_lowest_terms(determinant(rows), below_all_rows)
 
 
-def value_at(polynomial, point):
-    """What comes of the polynomial with the point for x."""
-    value = 0
+def whole_trace(coefficients, above):
+    """The sum of what stands in the first place of the first row, and so on, of a number with whole places."""
+    return sum([row[place] for place, row in enumerate(rows_of(coefficients, above))])
+
+
+def trace_of(coefficients, number):
+    """The trace of a number."""
+    above, below = over_one_below(number)
+    return in_lowest_terms(whole_trace(coefficients, above), below)
+
+
+def whole_polynomial(coefficients, above):
+    """The polynomial of a number with whole places; its coefficients are whole."""
+    # Leverrier's and Faddeev's way: the coefficients come one by one, the highest
+    # first, each of the trace of a product with what the ones ahead have left.
+    polynomial = [1]
+    left = [1] + [0 for one in coefficients[1:]]
+    for step in range(1, len(coefficients) + 1):
+        product = whole_product(coefficients, above, left)
+        coefficient = -whole_trace(coefficients, product) // step
+        polynomial = [coefficient] + polynomial
+        left = [product[0] + coefficient] + product[1:]
+    return polynomial
+
+
+def whole_least(coefficients, above):
+    """The least polynomial of a number with whole places; its coefficients are whole."""
+    if not any(above[1:]):
+        return [-above[0], 1]
+    polynomial = whole_polynomial(coefficients, above)
+    if len(polynomial) == 5:
+        # A number's polynomial is a power of its least one. Of a number that is no
+        # fraction, the power is the first or, in a field of degree 4, perhaps the second.
+        a = polynomial[3] // 2
+        b = (polynomial[2] - a * a) // 2
+        if polynomial == [b * b, 2 * a * b, a * a + 2 * b, 2 * a, 1]:
+            return [b, a, 1]
+    return polynomial
+
+
+def with_roots_divided(polynomial, below):
+    """The polynomial, told as fractions, whose roots are those of this one divided by the number below."""
+    fractions = []
+    power = 1
     for coefficient in reversed(polynomial):
-        value = value * point + coefficient
+        fractions = in_lowest_terms(coefficient, power) + fractions
+        power = power * below
+    return fractions
+
+
+def polynomial_of(coefficients, number):
+    """The polynomial of a number, told as fractions."""
+    above, below = over_one_below(number)
+    return with_roots_divided(whole_polynomial(coefficients, above), below)
+
+
+def least_of(coefficients, number):
+    """The least polynomial of a number, told as fractions."""
+    above, below = over_one_below(number)
+    return with_roots_divided(whole_least(coefficients, above), below)
+
+
+def value_at(polynomial, above, below):
+    """What comes of the polynomial with a fraction for x, times the number below to the degree."""
+    value = 0
+    power = 1
+    for coefficient in reversed(polynomial):
+        value = value * above + coefficient * power
+        power = power * below
     return value
+
+
+def bound_of_roots(polynomial):
+    """A whole number above the size of each root of a polynomial with the highest coefficient 1."""
+    # Cauchy's bound.
+    return 1 + max([abs(coefficient) for coefficient in polynomial])
 
 
 def whole_roots(polynomial):
     """The whole numbers that a polynomial with the highest coefficient 1 has as roots."""
-    # Cauchy's bound: no root has a size above this.
-    bound = 1 + max([abs(coefficient) for coefficient in polynomial])
-    return [point for point in range(-bound, bound + 1) if value_at(polynomial, point) == 0]
+    bound = bound_of_roots(polynomial)
+    return [point for point in range(-bound, bound + 1) if value_at(polynomial, point, 1) == 0]
 
 
 def parts_into_quadratics(polynomial):
@@ -171,24 +245,61 @@ def rest_of_division(dividend, divisor):
     return rest
 
 
-def sturm_chain(polynomial):
-    """Sturm's chain of a polynomial without double roots."""
+def sturm_chain(coefficients, above):
+    """Sturm's chain of the field's polynomial, weighed with a number whose places are whole.
+
+    From one point to a higher one, no root among them, it loses as many changes of sign as
+    there are roots between them at which the number is above 0, less those at which it is below 0.
+    """
+    polynomial = coefficients + [1]
     slope = [power * coefficient for power, coefficient in enumerate(polynomial)][1:]
-    chain = [polynomial, slope]
-    while len(chain[-1]) > 1:
-        rest = rest_of_division(chain[-2], chain[-1])
-        chain.append([-one for one in rest])
+    # At the roots the product in the field is the slope times the number.
+    following = without_zero_tops(whole_product(coefficients, slope, above))
+    chain = [polynomial]
+    while following:
+        chain.append(following)
+        following = [-one for one in rest_of_division(chain[-2], chain[-1])]
     return chain
 
 
-def count_changes(values):
-    """How often the sign changes from one value to the next one; none is 0."""
+def changes_at(chain, above, below):
+    """How often the sign changes along the chain at a fraction, which is no root of its first one."""
+    values = [value_at(polynomial, above, below) for polynomial in chain]
+    # A value that is 0 stands between two of unlike signs: there is one change, whichever sign it counts as.
     return sum([1 for one, other in zip(values, values[1:]) if (one < 0) != (other < 0)])
 
 
-def count_real_roots(polynomial):
-    """How many real roots a polynomial without double roots has."""
-    # Far enough out, the highest coefficient alone gives the sign.
-    far_above = [one[-1] for one in sturm_chain(polynomial)]
-    far_below = [one[-1] if len(one) % 2 == 1 else -one[-1] for one in sturm_chain(polynomial)]
-    return count_changes(far_below) - count_changes(far_above)
+def unweighed_chain(coefficients):
+    """Sturm's chain that loses one change of sign at each real root."""
+    return sturm_chain(coefficients, [1] + [0 for one in coefficients[1:]])
+
+
+def count_real_roots(coefficients):
+    """How many real roots the field's polynomial has."""
+    chain = unweighed_chain(coefficients)
+    bound = bound_of_roots(coefficients + [1])
+    return changes_at(chain, -bound, 1) - changes_at(chain, bound, 1)
+
+
+def real_roots_apart(coefficients):
+    """For each real root, the least first, two points with that root alone between them; and their number below."""
+    chain = unweighed_chain(coefficients)
+    bound = bound_of_roots(coefficients + [1])
+    roots = count_real_roots(coefficients)
+    gaps = [(-bound, bound)]
+    below = 1
+    # No fraction is a root of what can't be parted, so none is lost where gaps are halved.
+    while len(gaps) != roots:
+        below = 2 * below
+        halves = []
+        for low, high in gaps:
+            halves.extend([(2 * low, low + high), (low + high, 2 * high)])
+        gaps = [gap for gap in halves if changes_at(chain, gap[0], below) != changes_at(chain, gap[1], below)]
+    return gaps, below
+
+
+def signs_of(coefficients, number):
+    """The sign of a number at each real root, the least root first."""
+    gaps, below = real_roots_apart(coefficients)
+    chain = sturm_chain(coefficients, over_one_below(number)[0])
+    return [changes_at(chain, low, below) - changes_at(chain, high, below) for low, high in gaps]

@@ -1,5 +1,6 @@
 """Calls as they are handed in, and a second program that answers them another way."""
 
+import functools
 from fractions import Fraction
 
 from rootfield.field import answers
@@ -37,6 +38,34 @@ def told(i):
 
 def norm(i):
     return [7, i]
+
+
+def trace(i):
+    return [8, i]
+
+
+def polynomial(i):
+    return [9, i]
+
+
+def least(i):
+    return [10, i]
+
+
+def whole(i):
+    return [11, i]
+
+
+def signs(i):
+    return [12, i]
+
+
+def alike(i, j):
+    return [13, i, j]
+
+
+def drop():
+    return [14]
 
 
 def flat(calls):
@@ -117,12 +146,12 @@ def real_roots(polynomial):
 
 
 def solved(columns, wanted):
-    """The factors with which the columns make up what is wanted, and the determinant."""
+    """The factors with which the columns make up what is wanted, and the determinant if they are square."""
     n = len(columns)
-    rows = [[Fraction(columns[k][r]) for k in range(n)] + [Fraction(wanted[r])] for r in range(n)]
+    rows = [[Fraction(one[r]) for one in columns] + [Fraction(wanted[r])] for r in range(len(wanted))]
     size = Fraction(1)
     for k in range(n):
-        found = next((r for r in range(k, n) if rows[r][k]), None)
+        found = next((r for r in range(k, len(rows)) if rows[r][k]), None)
         if found is None:
             return None, Fraction(0)
         if found != k:
@@ -130,10 +159,45 @@ def solved(columns, wanted):
             size = -size
         size *= rows[k][k]
         rows[k] = [one / rows[k][k] for one in rows[k]]
-        for r in range(n):
+        for r in range(len(rows)):
             if r != k:
                 rows[r] = [one - rows[r][k] * other for one, other in zip(rows[r], rows[k])]
-    return [row[-1] for row in rows], size
+    if any(row[-1] for row in rows[n:]):
+        return None, size
+    return [row[-1] for row in rows[:n]], size
+
+
+def value(coefficients, point):
+    return sum(one * point**k for k, one in enumerate(coefficients))
+
+
+@functools.lru_cache(maxsize=None)
+def steps_with_roots(coefficients):
+    """For each real root, the least first, a step with it: a grid is made finer till it tells all apart."""
+    fine = 2
+    while True:
+        above = [value(coefficients, Fraction(k, fine)) > 0 for k in range(-21 * fine, 21 * fine + 1)]
+        places = [k for k in range(42 * fine) if above[k] != above[k + 1]]
+        if len(places) == real_roots(coefficients):
+            return [(Fraction(k, fine) - 21, Fraction(k + 1, fine) - 21) for k in places]
+        fine *= 2
+
+
+def sign_within(coefficients, low, high, a):
+    """The sign of a at the root between low and high: halved till a can't come to 0 any more."""
+    if not any(a):
+        return 0
+    steepness = sum(k * abs(one) * 21**(k - 1) for k, one in enumerate(a) if k)
+    above = value(coefficients, low) > 0
+    while True:
+        middle = (low + high) / 2
+        here = value(a, middle)
+        if abs(here) > steepness * (high - low):
+            return 1 if here > 0 else -1
+        if (value(coefficients, middle) > 0) == above:
+            low = middle
+        else:
+            high = middle
 
 
 def as_told(fractions):
@@ -186,16 +250,61 @@ class Model:
             return rest_by(multiplied(a, b), self.polynomial)[:n]
         return solved(self.powers(b), a)[0]
 
+    def polynomial_of(self, a):
+        """Put together from the determinants of x times the rows of 1 less those of a, x being 0, 1, 2 ..."""
+        rows = self.powers(a)
+        n = len(rows)
+        values = []
+        for x in range(n + 1):
+            less = [[(x if r == k else 0) - rows[r][k] for k in range(n)] for r in range(n)]
+            values.append(solved(less, [0] * n)[1])
+        return solved([[x**k for x in range(n + 1)] for k in range(n + 1)], values)[0]
+
+    def least_of(self, a):
+        """The lowest power of a that the ones below it make up."""
+        n = len(self.polynomial) - 1
+        powers = [[1] + [0] * (n - 1)]
+        while True:
+            following = self.reckon(4, powers[-1], a)
+            factors = solved(powers, following)[0]
+            if factors:
+                return [-one for one in factors] + [Fraction(1)]
+            powers.append(following)
+
+    def signs_of(self, a):
+        coefficients = tuple(self.polynomial)
+        return [sign_within(coefficients, *step, a) for step in steps_with_roots(coefficients)]
+
+    def tell(self, call, a):
+        if call == 6:
+            return [0] + as_told(a)
+        if call == 7:
+            return [0] + as_told([solved(self.powers(a), a)[1]])
+        if call == 8:
+            return [0] + as_told([sum(row[k] for k, row in enumerate(self.powers(a)))])
+        if call == 9:
+            return [0] + as_told(self.polynomial_of(a))
+        if call == 10:
+            return [len(self.least_of(a)) - 1] + as_told(self.least_of(a))
+        if call == 11:
+            return [int(all(one.denominator == 1 for one in self.polynomial_of(a)))]
+        return [real_roots(self.polynomial)] + self.signs_of(a)
+
     def answer(self, call):
         if call[0] < 2:
             return (self.field, self.number)[call[0]](call[2:])
+        if call[0] == 14:
+            if not self.numbers:
+                return [-4]
+            self.numbers.pop()
+            return [len(self.numbers)]
         if max(call[1:]) >= len(self.numbers):
             return [-2]
         chosen = [self.numbers[name] for name in call[1:]]
-        if call[0] == 6:
-            return [0] + as_told(chosen[0])
-        if call[0] == 7:
-            return [0] + as_told([solved(self.powers(chosen[0]), chosen[0])[1]])
+        if call[0] == 13:
+            return [int(self.least_of(chosen[0]) == self.least_of(chosen[1]))]
+        if call[0] > 5:
+            return self.tell(call[0], chosen[0])
         if call[0] == 5 and not any(chosen[1]):
             return [-3]
         return self.keep(self.reckon(call[0], *chosen))

@@ -7,11 +7,16 @@ import unittest
 
 from rootfield.field import answers
 
-from helper import HUGE, by, field, flat, minus, norm, number, plus, run, times, told
+from helper import (
+    HUGE, alike, by, drop, field, flat, least, minus, norm, number, plus, polynomial, run, signs, times, told, trace,
+    whole,
+)
 
 EVERY_CALL = [
-    field(-2, 0, 0), number(2, 4, 0, 3, -1, 1), number(1, 1, 1, 1, 0, 1), plus(0, 1), minus(0, 1),
-    times(0, 1), by(0, 1), told(0), norm(1), told(6), by(0, HUGE), number(1, 0), field(), field(0, 0),
+    drop(), field(-2, 0, 0), number(2, 4, 0, 3, -1, 1), number(1, 1, 1, 1, 0, 1), plus(0, 1), minus(0, 1),
+    times(0, 1), by(0, 1), told(0), norm(1), trace(2), polynomial(3), least(4), whole(5), signs(0), alike(0, 1),
+    told(6), by(0, HUGE), alike(HUGE, 0), number(1, 0), field(), field(0, 0), drop(), told(5), signs(5),
+    field(1, 0, -10, 0), number(*[0, 1] * 4), signs(0), least(0), drop(), drop(),
 ]
 
 
@@ -48,7 +53,28 @@ class Interface(unittest.TestCase):
             answers(start + [2, 0, 0, 3, 0, 1, 4, 0, 0, 5, 0, 0, 6, 3, 6, 4, 6, 5]),
             [1, 2, 1, 0, 1, 1, 1, 2, 1, 3, 1, 4, 5, 0, 17, 36, -1, 3, 5, 0, 1, 1, 0, 1, 1, -2])
 
+    def test_answers_that_tell_more(self):
+        start = [0, 2, -2, 0, 1, 4, 2, 4, -1, 3]
+        self.assertEqual(answers(start + [8, 0]), [1, 2, 1, 0, 3, 0, 1, 1])
+        self.assertEqual(answers(start + [9, 0]), [1, 2, 1, 0, 7, 0, 1, 36, -1, 1, 1, 1])
+        self.assertEqual(answers(start + [10, 0]), [1, 2, 1, 0, 7, 2, 1, 36, -1, 1, 1, 1])
+        self.assertEqual(answers(start + [11, 0]), [1, 2, 1, 0, 1, 0])
+        self.assertEqual(answers(start + [12, 0]), [1, 2, 1, 0, 3, 2, 1, 1])
+        self.assertEqual(answers(start + [13, 0, 0]), [1, 2, 1, 0, 1, 1])
+        self.assertEqual(answers(start + [14]), [1, 2, 1, 0, 1, 0])
+        self.assertEqual(answers([1, 4, 2, 1, 0, 1, 12, 0, 10, 0]), [1, 0, 1, 0, 5, 1, -2, 1, 1, 1])
+
+    def test_drop_has_neither_numbers_nor_rows(self):
+        self.assertEqual(answers([14]), [1, -4])
+        self.assertEqual(answers([14, 14, 14]), [1, -4] * 3)
+        self.assertEqual(
+            answers([1, 4, 1, 1, 2, 1, 14, 14, 0, 2, -2, 0, 14, 1, 4, 5, 1, 6, 1, 6, 0]),
+            [1, 0, 1, 0, 1, -4, 1, 2, 1, -4, 1, 0, 5, 0, 5, 1, 6, 1])
+
     def test_a_refusal_is_alone(self):
+        self.assertEqual(
+            answers([8, 0, 9, 0, 10, 0, 11, 0, 12, 0, 13, 0, 0, 14, 1, 4, 1, 1, 1, 1, 13, 0, 1, 13, 1, 0]),
+            [1, -2] * 6 + [1, -4, 1, 0, 1, -2, 1, -2])
         self.assertEqual(
             answers([0, 1, 1, 0, 2, 0, 0, 1, 2, 1, 1, 2, 0, 0, 6, 0, 7, 9, 1, 4, 0, 1, 0, 1, 5, 0, 0]),
             [1, -1, 1, -3, 1, -1, 1, -2, 1, -2, 1, -2, 1, 0, 1, -3])
@@ -62,6 +88,10 @@ class Interface(unittest.TestCase):
         given = answers(flat(EVERY_CALL))
         self.assertIs(type(given), list)
         self.assertEqual({type(one) for one in given}, {int})
+
+    def test_only_a_refusal_is_answered_below_0(self):
+        for one in run(*EVERY_CALL):
+            self.assertTrue(one[0] >= 0 or len(one) == 1, one)
 
 
 class NothingChanged(unittest.TestCase):

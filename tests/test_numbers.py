@@ -1,9 +1,8 @@
 """The calls number, plus, minus, times, by, told and norm: what they answer."""
 
-import random
 import unittest
 
-from helper import Model, by, field, last, minus, norm, number, plus, run, times, told
+from helper import by, field, last, minus, norm, number, plus, run, times, told
 
 SQUARE_ROOT_OF_2 = field(-2, 0)
 CUBE_ROOT_OF_2 = field(-2, 0, 0)
@@ -142,48 +141,6 @@ class Norms(unittest.TestCase):
         two = [GENERAL_CUBIC, number(1, 2, -3, 4, 5, 6), number(-7, 3, 0, 1, 2, 9), times(0, 1)]
         (zero, a, b), (zero, c, d), (zero, e, f) = run(*two, norm(0), norm(1), norm(2))[-3:]
         self.assertEqual(a * c * f, b * d * e)
-
-
-def any_number(chance, degree):
-    reach = chance.choice((3, 12, 1000))
-    places = []
-    for place in range(degree):
-        places += [chance.randint(-reach, reach), chance.randint(1, chance.choice((1, reach)))]
-    return number(*places)
-
-
-def any_calls(chance):
-    """A field, then calls that for the most part name numbers that are there."""
-    degree = chance.randint(2, 4)
-    calls = [field(*[chance.randint(-20, 20) for place in range(degree)])]
-    if run(*calls)[0][0] < 0:
-        degree = 2
-    for one in range(39):
-        names = [chance.randint(0, chance.choice((2, 4, 8))) for name in range(2)]
-        kind = chance.choice((1, 1, 2, 3, 4, 5, 6, 6, 7, 7))
-        if kind == 1:
-            calls.append(any_number(chance, degree))
-        else:
-            calls.append([kind] + names[:2 if kind < 6 else 1])
-    return calls
-
-
-class AnotherWay(unittest.TestCase):
-    def test_any_calls(self):
-        chance = random.Random(6)
-        seen = {}
-        for one in range(300):
-            calls = any_calls(chance)
-            model = Model()
-            expected = [model.answer(call) for call in calls]
-            self.assertEqual(run(*calls), expected, calls)
-            for call, answer in zip(calls, expected):
-                seen[call[0], min(answer[0], 0)] = True
-        for kind in (2, 3, 4, 5):
-            for answer in (0, -2, -5):
-                self.assertIn((kind, answer), seen)
-        for seldom in ((4, -8), (5, -8), (5, -3)):
-            self.assertIn(seldom, seen)
 
 
 if __name__ == "__main__":

@@ -2,10 +2,15 @@
 
 import unittest
 
-from helper import HUGE, by, field, last, minus, norm, number, plus, run, times, told
+from helper import (
+    HUGE, alike, by, drop, field, last, least, minus, norm, number, plus, polynomial, run, signs, times, told, trace,
+    whole,
+)
 
 FULL = [number(k + 1, 1, 0, 1) for k in range(8)]
-PAIR_CALLS = (plus, minus, times, by)
+PAIR_CALLS = (plus, minus, times, by, alike)
+KEEPING_CALLS = (plus, minus, times, by)
+CALLS_OF_ONE = (told, norm, trace, polynomial, least, whole, signs)
 # 10 to the 6, 10 to the 9, 10 to the 18 are the numbers 1, 2 and 3; 4 is 1.
 LARGE = [number(1000, 1, 0, 1), times(0, 0), times(1, 0), times(2, 2), number(1, 1, 0, 1)]
 
@@ -14,15 +19,17 @@ class NoneSuch(unittest.TestCase):
     def test_without_numbers(self):
         for call in PAIR_CALLS:
             self.assertEqual(run(call(0, 0)), [[-2]])
-        self.assertEqual(run(told(0), norm(0)), [[-2], [-2]])
+        for call in CALLS_OF_ONE:
+            self.assertEqual(run(call(0), field(-2, 0, 0), call(0)), [[-2], [1], [-2]])
 
     def test_the_first_that_is_not_there(self):
         one = number(1, 1, 1, 1)
         for call in PAIR_CALLS:
             for names in ((0, 1), (1, 0), (1, 1), (0, HUGE), (HUGE, 0), (HUGE, HUGE)):
                 self.assertEqual(run(one, call(*names), told(0)), [[0], [-2], [0, 1, 1, 1, 1]])
-        for name in (1, 8, HUGE):
-            self.assertEqual(run(one, told(name), norm(name)), [[0], [-2], [-2]])
+        for call in CALLS_OF_ONE:
+            for name in (1, 8, HUGE):
+                self.assertEqual(run(one, call(name), told(0)), [[0], [-2], [0, 1, 1, 1, 1]])
 
     def test_ahead_of_the_others(self):
         zero = number(0, 1, 0, 1)
@@ -36,7 +43,20 @@ class NoneSuch(unittest.TestCase):
     def test_the_last_that_is_there(self):
         self.assertEqual(last(*FULL, told(7)), [0, 8, 1, 0, 1])
         self.assertEqual(last(*FULL, norm(7)), [0, 64, 1])
+        self.assertEqual(last(*FULL, trace(7)), [0, 16, 1])
+        self.assertEqual(last(*FULL, polynomial(7)), [0, 64, 1, -16, 1, 1, 1])
+        self.assertEqual(last(*FULL, least(7)), [1, -8, 1, 1, 1])
+        self.assertEqual(last(*FULL, whole(7)), [1])
+        self.assertEqual(last(*FULL, signs(7)), [0])
+        self.assertEqual(run(*FULL, alike(7, 7), alike(0, 7), alike(7, 0))[8:], [[1], [0], [0]])
         self.assertEqual(last(*FULL[:7], plus(6, 0)), [7])
+
+    def test_as_it_was(self):
+        asked = [call(2) for call in CALLS_OF_ONE] + [call(2, 0) for call in PAIR_CALLS]
+        start = [field(-2, 0, 0), number(1, 2, -3, 4, 5, 6), number(7, 8, 9, 10, -11, 12)]
+        found = run(*start, *asked, told(0), told(1), times(0, 1))
+        self.assertEqual(found[3:15], [[-2]] * 12)
+        self.assertEqual(found[15:], [[0, 1, 2, -3, 4, 5, 6], [0, 7, 8, 9, 10, -11, 12], [2]])
 
 
 class ByZero(unittest.TestCase):
@@ -60,7 +80,7 @@ class ByZero(unittest.TestCase):
 class Full(unittest.TestCase):
     def test_the_eighth_and_the_ninth(self):
         self.assertEqual(run(*FULL, number(9, 1, 9, 1))[7:], [[7], [-5]])
-        for call in PAIR_CALLS:
+        for call in KEEPING_CALLS:
             self.assertEqual(run(*FULL[:7], call(0, 1), call(0, 1))[7:], [[7], [-5]])
 
     def test_as_it_was(self):
@@ -115,6 +135,22 @@ class TooLarge(unittest.TestCase):
         before = run(*LARGE, *ones)[5:]
         self.assertEqual(run(*LARGE, times(3, 3), by(2, 2), *ones[:5])[7:], before[:5])
         self.assertEqual(run(*LARGE, times(3, 3), by(2, 2))[5:], [[-8], [5]])
+
+
+class NothingToDrop(unittest.TestCase):
+    def test_without_numbers(self):
+        self.assertEqual(run(drop(), drop()), [[-4], [-4]])
+        self.assertEqual(run(field(-2, 0, 0), drop()), [[1], [-4]])
+
+    def test_after_a_new_field(self):
+        self.assertEqual(run(*FULL, field(3, 0), drop())[8:], [[0], [-4]])
+
+    def test_after_the_last_one(self):
+        self.assertEqual(run(FULL[0], drop(), drop(), drop()), [[0], [0], [-4], [-4]])
+
+    def test_as_it_was(self):
+        found = run(field(-2, 0), drop(), number(0, 1, 1, 1), times(0, 0), told(1), signs(0))
+        self.assertEqual(found, [[2], [-4], [0], [1], [0, 2, 1, 0, 1], [2, -1, 1]])
 
 
 class WrongNumbers(unittest.TestCase):
